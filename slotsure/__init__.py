@@ -1,0 +1,1 @@
+"""Slotsure: sums of products of boxes with slots, joined slot to slot."""
