@@ -1,4 +1,4 @@
-"""What a whole number and what a NAME is, asked of any thing."""
+"""What a whole number, a NAME and a row of things are, asked of any thing."""
 
 _LONGEST = 8
 _LETTERS = "abcdefghijklmnopqrstuvwxyz"
@@ -17,3 +17,13 @@ def is_name(thing):
         return False
     # Not islower or isalpha: these take letters beyond a to z as well.
     return all([sign in _LETTERS for sign in thing])
+
+
+def is_row(thing, least, most):
+    """True of a tuple of least to most things, both included, False of any other thing."""
+    return type(thing) == tuple and least <= len(thing) <= most
+
+
+def rises(row):
+    """Whether each of these texts, numbers or tuples stands below the one behind it."""
+    return all([one < other for one, other in zip(row, row[1:])])

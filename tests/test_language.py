@@ -27,6 +27,13 @@ BUILTINS = set(
     "RuntimeError NotImplementedError AttributeError StopIteration NotImplemented".split()
 )
 
+# L25: methods of builtin values; own ones come with the classes that have them.
+METHODS = set(
+    "append clear copy count endswith extend find get index insert isalnum isalpha isdigit islower isspace isupper "
+    "items join keys ljust lower lstrip partition pop remove replace reverse rfind rjust rpartition rsplit rstrip "
+    "setdefault split splitlines startswith strip update upper values zfill bit_length isascii isdecimal".split()
+)
+
 PLAIN_AT_MODULE_LEVEL = (ast.ImportFrom, ast.FunctionDef, ast.ClassDef, ast.Assign)
 
 
@@ -110,6 +117,61 @@ class Language(unittest.TestCase):
             with self.subTest(file=path.name):
                 self.assertEqual(sorted(bound & known), [])
                 self.assertEqual(sorted((read - bound) - BUILTINS), [])
+
+    def test_no_local_name_is_that_of_an_import_or_of_what_the_file_defines(self):
+        for path in FILES:
+            tree = tree_of(path)
+            above = {row.name for row in tree.body if isinstance(row, (ast.FunctionDef, ast.ClassDef))}
+            above |= {alias.name for row in tree.body if isinstance(row, ast.ImportFrom) for alias in row.names}
+            for row in tree.body:
+                if isinstance(row, ast.FunctionDef):
+                    with self.subTest(file=path.name, name=row.name):
+                        self.assertEqual(sorted((bound_names(row) - {row.name}) & above), [])
+
+    def test_names_are_bound_once_at_module_level(self):
+        for path in FILES:
+            bound = []
+            for row in tree_of(path).body:
+                if isinstance(row, (ast.FunctionDef, ast.ClassDef)):
+                    bound.append(row.name)
+                elif isinstance(row, ast.ImportFrom):
+                    bound.extend(alias.name for alias in row.names)
+                elif isinstance(row, ast.Assign):
+                    bound.extend(target.id for target in row.targets)
+            with self.subTest(file=path.name):
+                self.assertEqual(sorted(bound), sorted(set(bound)))
+
+    def test_no_method_but_those_told(self):
+        self.need_in_each_file(lambda tree: [
+            node for node in ast.walk(tree)
+            if isinstance(node, ast.Call) and isinstance(node.func, ast.Attribute) and node.func.attr not in METHODS
+        ])
+
+    def test_no_generator_no_decorator_and_no_is_but_of_none_true_and_false(self):
+        barred = (ast.GeneratorExp, ast.Yield, ast.YieldFrom, ast.Lambda, ast.Global, ast.AsyncFunctionDef, ast.Await)
+        self.need_in_each_file(lambda tree: [
+            node for node in ast.walk(tree)
+            if isinstance(node, barred)
+            or isinstance(node, (ast.FunctionDef, ast.ClassDef)) and node.decorator_list
+            or isinstance(node, ast.Compare) and any(isinstance(sign, (ast.Is, ast.IsNot)) for sign in node.ops)
+            and not isinstance(node.comparators[-1], ast.Constant)
+        ])
+
+    def test_no_two_files_import_from_each_other(self):
+        needs = {}
+        for path in FILES:
+            needs[path.stem] = [
+                row.module.partition(".")[2] for row in tree_of(path).body
+                if isinstance(row, ast.ImportFrom) and row.module.startswith("slotsure.")
+            ]
+        for name in needs:
+            seen, waiting = set(), list(needs[name])
+            while waiting:
+                other = waiting.pop()
+                if other not in seen:
+                    seen.add(other)
+                    waiting.extend(needs[other])
+            self.assertNotIn(name, seen)
 
     def test_no_number_with_a_point_and_no_plain_division(self):
         self.need_in_each_file(lambda tree: [
