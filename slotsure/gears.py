@@ -29,18 +29,29 @@ def need_gear(gear):
 
 def slots(gear, box):
     """The SLOTS of the BOX of this NAME."""
-    return _found_box(gear, box)[1]
+    return found_box(gear, box)[1]
 
 
 def group(gear, box):
     """The GROUP of the BOX of this NAME: all MOVES that come of those that are told, rising."""
-    _, kinds, moves = _found_box(gear, box)
+    _, kinds, moves = found_box(gear, box)
     return _made_group(len(kinds), moves)
 
 
 def moved(row, order):
     """A row of things MOVED: at K stands what stood at ORDER[K]."""
     return tuple([row[at] for at in order])
+
+
+def found_box(gear, box):
+    """The triple (NAME, SLOTS, MOVES) of the BOX of this NAME; NoBox."""
+    need_gear(gear)
+    # What is no NAME may not bear being compared with one.
+    if is_name(box):
+        for found in gear[1]:
+            if found[0] == box:
+                return found
+    raise NoBox(box)
 
 
 def is_slot(spaces, thing):
@@ -84,16 +95,6 @@ def _need_box(spaces, box):
         raise BadGear("MOVES are a tuple of 0 to 3 pairs (ORDER, SIGN)")
     if not all([moved(kinds, order) == kinds for order, _ in moves]):
         raise BadGear("a MOVE leaves each SLOT its SPACE and SIDE")
-
-
-def _found_box(gear, box):
-    need_gear(gear)
-    # What is no NAME may not bear being compared with one.
-    if is_name(box):
-        for found in gear[1]:
-            if found[0] == box:
-                return found
-    raise NoBox(box)
 
 
 def _made_group(many, moves):

@@ -6,7 +6,7 @@ from slotsure.errors import BadName, TooGreat, Unfit
 from slotsure.gears import moved
 from slotsure.limits import LONG
 from slotsure.names import apart, exchanged
-from slotsure.shares import share, times
+from slotsure.shares import quick_times, share
 from slotsure.sums import kinds_in, need_sum
 from slotsure.terms import can_join
 from slotsure.words import is_name, is_row
@@ -97,7 +97,7 @@ def _mixed(given, names, orders):
     free, parts = given
     changes = [(share(sign, len(orders)), dict(zip(names, moved(names, order)))) for order, sign in orders]
     made = [
-        (times(fraction, by), exchanged(term, change))
+        (quick_times(fraction, by), exchanged(term, change))
         for fraction, term in parts
         for by, change in changes
     ]

@@ -5,6 +5,8 @@ from math import gcd
 from slotsure.errors import BadNumber
 from slotsure.words import is_row
 
+ZERO = (0, 1)
+
 
 def is_share(thing):
     """True of a FRACTION, False of any other thing."""
@@ -20,30 +22,50 @@ def share(a, b):
         raise BadNumber("a FRACTION is made of two whole numbers")
     if b == 0:
         raise BadNumber("0 can't stand beneath")
-    common = gcd(a, b)
-    if b < 0:
-        common = -common
-    return a // common, b // common
+    return _lowest(a, b) if b > 0 else _lowest(-a, -b)
 
 
 def plus(one, other):
     """The two FRACTIONS added."""
     need_share(one)
     need_share(other)
-    return share(one[0] * other[1] + other[0] * one[1], one[1] * other[1])
+    return quick_plus(one, other)
 
 
 def times(one, other):
     """The two FRACTIONS multiplied."""
     need_share(one)
     need_share(other)
-    return share(one[0] * other[0], one[1] * other[1])
+    return quick_times(one, other)
 
 
 def need_share(thing):
     """None of a FRACTION, BadNumber of any other thing."""
     if not is_share(thing):
         raise BadNumber("a FRACTION is a pair of whole numbers in lowest terms, the second from 1 on")
+
+
+def quick_plus(one, other):
+    """What are known to be FRACTIONS added."""
+    a, b = one
+    c, d = other
+    if b == d == 1:
+        return a + c, 1
+    return _lowest(a * d + c * b, b * d)
+
+
+def quick_times(one, other):
+    """What are known to be FRACTIONS multiplied."""
+    a, b = one
+    c, d = other
+    if b == d == 1:
+        return a * c, 1
+    return _lowest(a * c, b * d)
+
+
+def _lowest(a, b):
+    common = gcd(a, b)
+    return a // common, b // common
 
 
 def _are_ints(things):

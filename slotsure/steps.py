@@ -17,16 +17,16 @@ def walk(gear, term, steps):
     groups = group_table(gear, [term])
     sign = 1
     for number, step in enumerate(steps):
-        led = _led(groups, term, step)
-        if led is None:
+        made = led(groups, term, step)
+        if made is None:
             raise BadStep(number)
-        factor, term = led
+        factor, term = made
         sign = sign * factor
     return sign, term
 
 
-def _led(groups, term, step):
-    """(SIGN, TERM) to which this STEP leads, None where it can't stand."""
+def led(groups, term, step):
+    """(SIGN, TERM) to which this STEP leads a TERM, None where it can't stand, or is none."""
     if not is_row(step, 3, 4) or type(step[0]) != str:
         return None
     word, many = step[0], len(step)

@@ -5,11 +5,9 @@ from slotsure.forms import form_by, need_light
 from slotsure.gears import group_table, is_slot, need_gear, slot_table
 from slotsure.limits import LONG, MOST
 from slotsure.names import apart, names_in
-from slotsure.shares import is_share, need_share, plus, times
+from slotsure.shares import ZERO, is_share, need_share, quick_plus, quick_times
 from slotsure.terms import can_join, free_in, seats
 from slotsure.words import is_name, is_row, rises
-
-_ZERO = (0, 1)
 
 
 def need_sum(gear, given):
@@ -31,20 +29,9 @@ def plain(gear, given):
     """The SUM's PLAIN form; TooGreat(HEAVY)."""
     need_sum(gear, given)
     free, parts = given
-    terms = [term for _, term in parts]
-    groups = group_table(gear, terms)
-    for term in terms:
-        need_light(groups, term)
-    forms = {}
-    found = {}
-    for fraction, term in parts:
-        # TERMS may be alike, and a FORM is dear.
-        if term not in forms:
-            forms[term] = form_by(groups, term)
-        sign, told = forms[term]
-        if sign != 0:
-            found[told] = plus(found.get(told, _ZERO), times(fraction, (sign, 1)))
-    return free, tuple([(found[told], told) for told in sorted(found) if found[told] != _ZERO])
+    groups = group_table(gear, [term for _, term in parts])
+    need_light_parts(groups, parts)
+    return free, plain_parts(groups, parts)
 
 
 def added(gear, one, other):
@@ -61,7 +48,7 @@ def scaled(gear, given, by):
     """The SUM with each FRACTION multiplied by this one."""
     need_sum(gear, given)
     need_share(by)
-    return given[0], tuple([(times(fraction, by), term) for fraction, term in given[1]])
+    return given[0], scaled_parts(given[1], by)
 
 
 def multiplied(gear, one, other):
@@ -75,11 +62,36 @@ def multiplied(gear, one, other):
         raise TooGreat(MOST)
     free = tuple(sorted([row for row in one[0] + other[0] if row[0] not in met]))
     parts = [
-        (times(fraction, factor), _beside(term, behind))
+        (quick_times(fraction, factor), _beside(term, behind))
         for fraction, term in one[1]
         for factor, behind in other[1]
     ]
     return free, tuple(parts)
+
+
+def need_light_parts(groups, parts):
+    """None where each TERM is of a WEIGHT up to HEAVY, TooGreat otherwise."""
+    for _, term in parts:
+        need_light(groups, term)
+
+
+def plain_parts(groups, parts):
+    """The PARTS of the PLAIN form of these, of which the TERMS are known to be of a WEIGHT up to HEAVY."""
+    forms = {}
+    found = {}
+    for fraction, term in parts:
+        # TERMS may be alike, and a FORM is dear.
+        if term not in forms:
+            forms[term] = form_by(groups, term)
+        sign, told = forms[term]
+        if sign != 0:
+            found[told] = quick_plus(found.get(told, ZERO), quick_times(fraction, (sign, 1)))
+    return tuple([(found[told], told) for told in sorted(found) if found[told] != ZERO])
+
+
+def scaled_parts(parts, by):
+    """The PARTS with each FRACTION multiplied by this one."""
+    return tuple([(quick_times(fraction, by), term) for fraction, term in parts])
 
 
 def need_same_free(one, other):

@@ -5,6 +5,8 @@ import copy
 import itertools
 from fractions import Fraction
 
+from slotsure.arrays import need_arrays, worth
+
 UP = ("v", "up")
 DOWN = ("v", "down")
 OUT = ("w", "up")
@@ -355,3 +357,185 @@ def brute_worth(gear, sizes, arrays, given):
             place = tuple(at[name] for name, _, _ in free)
             told[place] = told.get(place, 0) + found
     return {row: found for row, found in told.items() if found != 0}
+
+
+def told_arrays(gear, arrays):
+    """ARRAYS of the numbers at all ROWS of all BOXES."""
+    told = []
+    for box, _, _ in gear[1]:
+        rows = []
+        for row, number in sorted(arrays[box].items()):
+            number = Fraction(number)
+            if number != 0:
+                rows.append((row, (number.numerator, number.denominator)))
+        told.append(tuple(rows))
+    return tuple(told)
+
+
+def numbers_in(gear, arrays):
+    """For each BOX a dict of what ARRAYS tell, 0 at all other ROWS."""
+    class Entries(dict):
+        def __missing__(self, row):
+            return Fraction(0)
+
+    told = {}
+    for (box, _, _), rows in zip(gear[1], arrays):
+        told[box] = Entries({row: Fraction(*fraction) for row, fraction in rows})
+    return told
+
+
+def plain_worth(gear, sizes, arrays, given):
+    """The WORTH by ARRAYS, as it is told, summed up plainly."""
+    found = brute_worth(gear, dict(zip(gear[0], sizes)), numbers_in(gear, arrays), given)
+    return [(row, (number.numerator, number.denominator)) for row, number in sorted(found.items())]
+
+
+def few_arrays(rnd, gear, sizes, many):
+    """ARRAYS that keep the MOVES, of few ROWS, with FRACTIONS of all kinds."""
+    told = []
+    for box, kinds, _ in gear[1]:
+        group = brute_group(gear, box)
+        limits = [dict(zip(gear[0], sizes))[space] for space, _ in kinds]
+        rows = {}
+        for _ in range(many):
+            row = tuple(rnd.randrange(limit) for limit in limits)
+            number = Fraction(rnd.randint(-7, 7), rnd.randint(1, 5))
+            for order, sign in group:
+                # Both signs at one ROW leave 0 there.
+                place = brute_moved(row, order)
+                rows[place] = rows.get(place, 0) + sign * number
+        told.append(tuple(
+            (row, (number.numerator, number.denominator)) for row, number in sorted(rows.items()) if number != 0
+        ))
+    return tuple(told)
+
+
+def some_telling(rnd, gear, term, many=6):
+    """A TELLING of the TERM with its SIGN, some STEPS away."""
+    sign = 1
+    for _ in range(many):
+        made = some_step(rnd, gear, term)
+        if made is not None:
+            sign *= made[1]
+            term = made[2]
+    return sign, term
+
+
+def told_otherwise(rnd, gear, given):
+    """A SUM that is ALIKE: TERMS told otherwise, PARTS in two, in another order, with some of 0 among them."""
+    free, parts = given
+    made = []
+    for share, term in parts:
+        share = Fraction(*share)
+        cut = Fraction(rnd.randint(-3, 3), rnd.randint(1, 4)) if rnd.random() < 0.5 else share
+        for piece in (cut, share - cut):
+            if piece != 0 or rnd.random() < 0.3:
+                sign, other = some_telling(rnd, gear, term)
+                made.append(((piece * sign).as_integer_ratio(), other))
+    rnd.shuffle(made)
+    return free, tuple(made)
+
+
+def own_walk(gear, term, steps):
+    """(SIGN, TERM) to which STEPS lead, straight from the words of 4; None where one can't stand."""
+    sign = 1
+    for step in steps:
+        if not isinstance(step, tuple) or not step:
+            return None
+        row = list(term)
+        whole = [type(at) is int and 0 <= at < len(term) for at in step[1:3]]
+        if step[0] == "swap" and len(step) == 3 and all(whole) and step[1] < step[2]:
+            one, other = step[1:]
+            row[one], row[other] = row[other], row[one]
+        elif step[0] == "move" and len(step) == 4 and whole[0]:
+            at, order, factor = step[1:]
+            if not any((order, factor) == move and type(factor) is int for move in brute_group(gear, term[at][0])):
+                return None
+            row[at] = (term[at][0], brute_moved(term[at][1], order))
+            sign *= factor
+        elif step[0] == "name" and len(step) == 3:
+            old, new = step[1:]
+            good = isinstance(new, str) and 1 <= len(new) <= 8 and set(new) <= set("abcdefghijklmnopqrstuvwxyz")
+            if names_of(term).count(old) != 2 or not good or new in names_of(term):
+                return None
+            row = [(box, tuple(new if name == old else name for name in names)) for box, names in term]
+        else:
+            return None
+        term = tuple(row)
+    return sign, term
+
+
+def need_paper(test, gear, one, other, paper):
+    """Needs it to be a PAPER that the two SUMS are ALIKE, by the words of 10 and a walk of the test's own."""
+    test.assertIs(type(paper), tuple)
+    heads, rows = paper
+    test.assertIs(type(heads), tuple)
+    test.assertIs(type(rows), tuple)
+    test.assertEqual(one[0], other[0])
+    parts = [(Fraction(*share), term) for share, term in one[1]]
+    parts.extend((-Fraction(*share), term) for share, term in other[1])
+    test.assertEqual(len(rows), len(parts))
+    totals = [Fraction(0) for _ in heads]
+    for (share, term), row in zip(parts, rows):
+        test.assertIs(type(row), tuple)
+        test.assertIs(type(row[-1]), tuple)
+        if row[0] == "nought":
+            test.assertEqual(len(row), 2)
+            test.assertEqual(own_walk(gear, term, row[1]), (-1, term))
+        else:
+            word, at, steps = row
+            test.assertEqual(word, "head")
+            test.assertIs(type(at), int)
+            test.assertIn(at, range(len(heads)))
+            sign, told = own_walk(gear, term, steps)
+            test.assertEqual(told, heads[at])
+            totals[at] += sign * share
+    test.assertEqual(totals, [0] * len(heads))
+
+
+def need_witness(test, gear, one, other, witness, sizes=None):
+    """Needs it to be a WITNESS that the two SUMS aren't ALIKE, by the words of 11; of these SIZES, if told."""
+    test.assertIs(type(witness), tuple)
+    told, arrays, row = witness
+    if sizes is not None:
+        test.assertEqual(told, sizes)
+    test.assertIsNone(need_arrays(gear, told, arrays))
+    test.assertEqual({fraction[1] for rows in arrays for _, fraction in rows} - {1}, set())
+    test.assertIs(type(row), tuple)
+    size_of = dict(zip(gear[0], told))
+    test.assertEqual(len(row), len(one[0]))
+    for number, (_, space, _) in zip(row, one[0]):
+        test.assertIs(type(number), int)
+        test.assertIn(number, range(size_of[space]))
+    # Neither is refused, as 11 tells.
+    worths = [dict(worth(gear, told, arrays, given)).get(row, (0, 1)) for given in (one, other)]
+    test.assertNotEqual(worths[0], worths[1])
+    small = 1
+    for size in told:
+        small *= size ** 4
+    if small <= 256:
+        plain = [dict(plain_worth(gear, told, arrays, given)).get(row, (0, 1)) for given in (one, other)]
+        test.assertEqual(plain, worths)
+
+
+def free_for(gear, box, names):
+    """The FREE of a SUM that puts the BOX with these NAMES in its SLOTS."""
+    return tuple(sorted((name, *kind) for name, kind in zip(names, kinds_of(gear, box))))
+
+
+def a_definition(rnd, gear, box, most, many, pool=POOL):
+    """A DEFINITION of the BOX, of so many PARTS."""
+    names = tuple(rnd.sample(pool, len(kinds_of(gear, box))))
+    return names, a_sum(rnd, gear, free_for(gear, box, names), most, many)
+
+
+def defined_entries(gear, sizes, arrays, box, definition):
+    """What stands at each ROW of the BOX where it has the WORTH of its DEFINITION; sizes by SPACES."""
+    names, given = definition
+    own = [name for name, _, _ in given[0]]
+    told = {}
+    for row, number in brute_worth(gear, sizes, arrays, given).items():
+        told[tuple(row[own.index(name)] for name in names)] = number
+    for row in itertools.product(*[range(sizes[space]) for space, _ in kinds_of(gear, box)]):
+        told.setdefault(row, 0)
+    return told

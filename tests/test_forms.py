@@ -8,7 +8,7 @@ import unittest.mock
 
 from helper import (
     BARE_GEAR, BIG_GEAR, DOWN, GEAR, NOTHINGS, UP, brute_weight, brute_worth, free_of, is_nought, names_of,
-    need_refused, need_same_by_name, normal, some_arrays, some_step, tellings, terms,
+    need_refused, need_same_by_name, normal, some_arrays, some_telling, tellings, terms,
 )
 from slotsure.errors import BadGear, BadTerm, TooGreat
 from slotsure.forms import form, form_steps, weight
@@ -33,17 +33,6 @@ HEAVY_GEAR = (
         ("x", (DOWN,) * 4, TURNS + (((0, 1, 2, 3), -1),)),
     ),
 )
-
-
-def walked(rnd, gear, term, many):
-    """A TELLING of the TERM after so many STEPS at random, with its SIGN."""
-    sign = 1
-    for _ in range(many):
-        found = some_step(rnd, gear, term)
-        if found is not None:
-            sign *= found[1]
-            term = found[2]
-    return sign, term
 
 
 class Weight(unittest.TestCase):
@@ -93,7 +82,7 @@ class FormCase(unittest.TestCase):
         """Needs the very same FORM of many TELLINGS, the SIGNS in step."""
         sign, told = self.need_form(gear, term)
         for _ in range(many):
-            factor, other = walked(rnd, gear, term, 14)
+            factor, other = some_telling(rnd, gear, term, 14)
             if told is None:
                 self.assertEqual(self.need_form(gear, other), (0, None))
             else:

@@ -34,6 +34,13 @@ METHODS = set(
     "setdefault split splitlines startswith strip update upper values zfill bit_length isascii isdecimal".split()
 )
 
+# Methods that the package's own classes define.
+OWN_METHODS = {
+    method.name
+    for path in FILES for row in ast.parse(path.read_text(encoding="utf-8")).body if isinstance(row, ast.ClassDef)
+    for method in row.body if isinstance(method, ast.FunctionDef)
+}
+
 PLAIN_AT_MODULE_LEVEL = (ast.ImportFrom, ast.FunctionDef, ast.ClassDef, ast.Assign)
 
 
@@ -43,6 +50,10 @@ def tree_of(path):
 
 def is_docstring(row):
     return isinstance(row, ast.Expr) and isinstance(row.value, ast.Constant) and isinstance(row.value.value, str)
+
+
+def is_self(node):
+    return isinstance(node, ast.Name) and node.id == "self"
 
 
 def bound_names(tree):
@@ -141,10 +152,23 @@ class Language(unittest.TestCase):
             with self.subTest(file=path.name):
                 self.assertEqual(sorted(bound), sorted(set(bound)))
 
+    def test_no_list_or_dict_within_another_thing_at_module_level(self):
+        def inner(node):
+            return [
+                other for other in ast.walk(node) if other is not node and isinstance(
+                    other, (ast.List, ast.Dict, ast.Set),
+                )
+            ]
+
+        self.need_in_each_file(lambda tree: [
+            node for row in tree.body if isinstance(row, ast.Assign) for node in inner(row.value)
+        ])
+
     def test_no_method_but_those_told(self):
         self.need_in_each_file(lambda tree: [
             node for node in ast.walk(tree)
-            if isinstance(node, ast.Call) and isinstance(node.func, ast.Attribute) and node.func.attr not in METHODS
+            if isinstance(node, ast.Call) and isinstance(node.func, ast.Attribute)
+            and node.func.attr not in (METHODS if not is_self(node.func.value) else OWN_METHODS)
         ])
 
     def test_no_generator_no_decorator_and_no_is_but_of_none_true_and_false(self):
