@@ -65,7 +65,7 @@ def difference(gear, one, other):
     groups = group_table(gear, [term for _, term in one[1] + other[1]])
     need_light_parts(groups, one[1])
     need_light_parts(groups, other[1])
-    need_witness(groups, one[1] + other[1])
+    need_witness_width(groups, one[1] + other[1])
     return plain_parts(groups, less(one, other))
 
 
@@ -74,7 +74,7 @@ def less(one, other):
     return one[1] + scaled_parts(other[1], (-1, 1))
 
 
-def need_witness(groups, parts):
+def need_witness_width(groups, parts):
     """None where a WITNESS about these PARTS has a WORTH by WIDE, TooGreat otherwise."""
     most = max([len(term) for _, term in parts], default=0)
     total = 0

@@ -1,6 +1,6 @@
 """Whether two SUMS are ALIKE AT told SIZES, by polynomials, and their LEAST SIZE."""
 
-from slotsure.alike import difference, less, need_witness
+from slotsure.alike import difference, less, need_witness_width
 from slotsure.arrays import need_sizes, sizes_by_name
 from slotsure.errors import TooGreat
 from slotsure.gears import group_table
@@ -18,7 +18,7 @@ def alike_at(gear, sizes, one, other):
     parts = less(one, other)
     _need_few_choices(gear, sizes, parts)
     groups = group_table(gear, [term for _, term in parts])
-    need_witness(groups, parts)
+    need_witness_width(groups, parts)
     witness = _witness_at(gear, groups, sizes, one[0], parts)
     return ("alike",) if witness is None else ("unlike", witness)
 
